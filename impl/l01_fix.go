@@ -97,6 +97,10 @@ func nearest(a int64, b int64) int64 {
 	return whole
 }
 
+func isLevel(v int64) bool {
+	return v >= 0 && v <= MaxLevel
+}
+
 func isFix(v int64) bool {
 	return v >= -MaxFix && v <= MaxFix
 }
