@@ -28,12 +28,16 @@ func likeMatrix(v int64) impl.Matrix {
 	return matrix(v, v, v, v, v, v, v, v, v)
 }
 
-func cloneMatrix(m impl.Matrix) impl.Matrix {
-	var rows [][]int64
-	for _, r := range m.Rows {
-		rows = append(rows, slices.Clone(r))
+func cloneLists(lists [][]int64) [][]int64 {
+	var own [][]int64
+	for _, list := range lists {
+		own = append(own, slices.Clone(list))
 	}
-	return impl.Matrix{Rows: rows}
+	return own
+}
+
+func cloneMatrix(m impl.Matrix) impl.Matrix {
+	return impl.Matrix{Rows: cloneLists(m.Rows)}
 }
 
 // with answers m with v at one place.
@@ -893,21 +897,26 @@ func TestSameMatricesOfEmptyLists(t *testing.T) {
 	}
 }
 
-// roomyMatrix answers m in memory that has room behind its rows and numbers, and whether all of that is still as it was.
-func roomyMatrix(m impl.Matrix) (impl.Matrix, func() bool) {
-	rows := make([][]int64, 0, len(m.Rows)+2)
-	for _, r := range m.Rows {
-		rows = append(rows, append(make([]int64, 0, len(r)+5), r...))
+// roomyLists answers lists in memory that has room behind them and behind their numbers, and whether all of that is still as it was.
+func roomyLists(lists [][]int64) ([][]int64, func() bool) {
+	own := make([][]int64, 0, len(lists)+2)
+	for _, list := range lists {
+		own = append(own, append(make([]int64, 0, len(list)+5), list...))
 	}
 	whole := func() [][]int64 {
 		var all [][]int64
-		for _, r := range rows[:cap(rows)] {
-			all = append(all, slices.Clone(r[:cap(r)]))
+		for _, list := range own[:cap(own)] {
+			all = append(all, slices.Clone(list[:cap(list)]))
 		}
 		return all
 	}
 	kept := whole()
-	return impl.Matrix{Rows: rows}, func() bool { return reflect.DeepEqual(whole(), kept) }
+	return own, func() bool { return reflect.DeepEqual(whole(), kept) }
+}
+
+func roomyMatrix(m impl.Matrix) (impl.Matrix, func() bool) {
+	rows, unchanged := roomyLists(m.Rows)
+	return impl.Matrix{Rows: rows}, unchanged
 }
 
 // Promise 1: no argument is changed, whether there is a code or not, nor what lies behind it in its memory.
@@ -939,25 +948,30 @@ func TestMatricesChangeNoArgument(t *testing.T) {
 	}
 }
 
-// checkNewRows changes one row of an answer after the other: no other row of it may change by that, nor the answer that was asked again.
-func checkNewRows(t *testing.T, what string, ask func() impl.MatrixResult) {
+// checkNewLists changes one list of an answer after the other: no other list of it may change by that, nor the answer that was asked again.
+func checkNewLists(t *testing.T, what string, ask func() [][]int64) {
 	t.Helper()
 	first, second := ask(), ask()
-	want := cloneMatrix(first.Matrix)
-	for i, r := range first.Matrix.Rows {
-		fillInts(r)
-		for k, other := range first.Matrix.Rows[i+1:] {
-			if !slices.Equal(other, want.Rows[i+1+k]) {
-				t.Fatalf("%s: row %d shares memory with row %d", what, i, i+1+k)
+	want := cloneLists(first)
+	for i, list := range first {
+		fillInts(list)
+		for k, other := range first[i+1:] {
+			if !slices.Equal(other, want[i+1+k]) {
+				t.Fatalf("%s: list %d shares memory with list %d", what, i, i+1+k)
 			}
 		}
 	}
-	for i := range first.Matrix.Rows[:cap(first.Matrix.Rows)] {
-		first.Matrix.Rows[:cap(first.Matrix.Rows)][i] = nil
+	for i := range first[:cap(first)] {
+		first[:cap(first)][i] = nil
 	}
-	if !reflect.DeepEqual(second.Matrix.Rows, want.Rows) || !reflect.DeepEqual(ask().Matrix.Rows, want.Rows) {
+	if !reflect.DeepEqual(second, want) || !reflect.DeepEqual(ask(), want) {
 		t.Fatalf("%s: shares memory with another answer, or with an argument", what)
 	}
+}
+
+func checkNewRows(t *testing.T, what string, ask func() impl.MatrixResult) {
+	t.Helper()
+	checkNewLists(t, what, func() [][]int64 { return ask().Matrix.Rows })
 }
 
 // Promise 1: what is answered is new memory, each row for itself.
