@@ -24,6 +24,11 @@ const maxCube = 1000000000000000
 const maxCubeRoot = 100000
 const fixBytes = 4
 
+// levelOne is how many numbers make a level where they are levels themselves,
+// as FineOne is where they are fine numbers: what does the same with both is told
+// one of these, and how it is called there is one.
+const levelOne = 1
+
 type IntResult struct {
 	Code  int64
 	Value int64
@@ -135,7 +140,11 @@ func divFix(a int64, b int64) (int64, error) {
 }
 
 func ClampLevel(v int64) int64 {
-	return min(max(v, 0), MaxLevel)
+	return clamp(v, levelOne)
+}
+
+func clamp(v int64, one int64) int64 {
+	return min(max(v, 0), MaxLevel*one)
 }
 
 func CubeRoot(v int64) IntResult {

@@ -431,10 +431,15 @@ func fewFaultyChains() []chainCase {
 
 // colourCases are lists of which each one tells a code, the number of numbers ahead of any one of them.
 func colourCases() map[int64][][]int64 {
+	return casesOf(noLevels(), top)
+}
+
+// casesOf has each of the numbers that are none at each place, beside such as go from 0 to most.
+func casesOf(none []int64, most int64) map[int64][][]int64 {
 	cases := map[int64][][]int64{impl.ErrMany: notThree()}
-	for _, bad := range noLevels() {
+	for _, bad := range none {
 		cases[impl.ErrMany] = append(cases[impl.ErrMany], []int64{bad}, []int64{bad, bad}, []int64{0, 0, 0, bad}, []int64{bad, 0, 0, 0})
-		cases[impl.ErrRange] = append(cases[impl.ErrRange], []int64{bad, 0, top}, []int64{0, bad, 32768}, []int64{top, 0, bad}, []int64{bad, bad, bad})
+		cases[impl.ErrRange] = append(cases[impl.ErrRange], []int64{bad, 0, most}, []int64{0, bad, 32768}, []int64{most, 0, bad}, []int64{bad, bad, bad})
 	}
 	return cases
 }
