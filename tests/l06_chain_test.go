@@ -1128,6 +1128,21 @@ func spoilChain(c impl.Chain) {
 	}
 }
 
+// isToldAgain asks of each chain what ask asks, and again from the last one on, of the same chain in other memory.
+func isToldAgain[T any](t *testing.T, list []impl.Chain, ask func(impl.Chain) T) {
+	t.Helper()
+	var first []T
+	for _, c := range list {
+		first = append(first, ask(c))
+	}
+	for i, c := range slices.Backward(list) {
+		own, _ := roomyChain(c)
+		if second := ask(own); !reflect.DeepEqual(first[i], second) {
+			t.Fatalf("%v: %+v, then %+v", c, first[i], second)
+		}
+	}
+}
+
 // Promise 1: the same arguments have the same answer, whatever was asked between.
 func TestChainsAnswerTheSameAgain(t *testing.T) {
 	type answers struct {
@@ -1156,14 +1171,5 @@ func TestChainsAnswerTheSameAgain(t *testing.T) {
 		}
 		return a
 	}
-	var first []answers
-	for _, c := range list {
-		first = append(first, ask(c))
-	}
-	for i, c := range slices.Backward(list) {
-		own, _ := roomyChain(c)
-		if second := ask(own); !reflect.DeepEqual(first[i], second) {
-			t.Fatalf("%v: %+v, then %+v", c, first[i], second)
-		}
-	}
+	isToldAgain(t, list, ask)
 }

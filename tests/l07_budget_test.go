@@ -4,7 +4,6 @@ import (
 	"fmt"
 	"math"
 	"math/big"
-	"reflect"
 	"slices"
 	"testing"
 
@@ -468,8 +467,7 @@ func TestFineStageAtPointsAndNodes(t *testing.T) {
 
 // A stage that does nothing leaves each fine number as it is.
 func TestFineStageOfNothing(t *testing.T) {
-	line := curve(0, top)
-	for _, s := range []impl.Stage{curvesStage(line, line, line), matrixStage(diagonal(one, one, one)), gridStage(lineGrid(2)), gridStage(lineGrid(4))} {
+	for _, s := range idleStages() {
 		for _, w := range fineColours() {
 			isList(t, "FineStage of what does nothing", impl.FineStage(s, w), w...)
 		}
@@ -784,15 +782,5 @@ func TestBudgetsAnswerTheSameAgain(t *testing.T) {
 		}
 		return a
 	}
-	list := chainsAndFaulty()
-	var first []answers
-	for _, c := range list {
-		first = append(first, ask(c))
-	}
-	for i, c := range slices.Backward(list) {
-		own, _ := roomyChain(c)
-		if second := ask(own); !reflect.DeepEqual(first[i], second) {
-			t.Fatalf("%v: %+v, then %+v", c, first[i], second)
-		}
-	}
+	isToldAgain(t, chainsAndFaulty(), ask)
 }
