@@ -47,9 +47,13 @@ func numberedGrid(side int64) impl.Grid {
 	})
 }
 
-// lineGrid is written out by the points of a line, not by a division.
+// linePoints are written out, not told by a division.
+func linePoints(side int64) []int64 {
+	return map[int64][]int64{2: {0, 65535}, 3: {0, 32768, 65535}, 4: {0, 21845, 43690, 65535}}[side]
+}
+
 func lineGrid(side int64) impl.Grid {
-	points := map[int64][]int64{2: {0, 65535}, 3: {0, 32768, 65535}, 4: {0, 21845, 43690, 65535}}[side]
+	points := linePoints(side)
 	return gridOf(side, func(p []int64) []int64 { return []int64{points[p[0]], points[p[1]], points[p[2]]} })
 }
 

@@ -736,13 +736,18 @@ func TestBudgetsAnswerNewMemory(t *testing.T) {
 	}
 }
 
+// chainIn answers a stage of each kind, all lists of which lie in the five numbers.
+func chainIn(numbers []int64) impl.Chain {
+	same := curve(numbers[:3]...)
+	return chain(
+		curvesStage(same, same, curve(numbers[1:]...)), matrixStage(impl.Matrix{Rows: [][]int64{numbers[:3], numbers[:3], numbers[1:4]}}),
+		gridStage(impl.Grid{Side: 2, Nodes: slices.Repeat([][]int64{numbers[2:]}, 8)}))
+}
+
 // Lists of an argument may share memory, with each other and with the colour: what is told hangs on the numbers alone.
 func TestBudgetsOfListsThatShareMemory(t *testing.T) {
 	numbers := []int64{0, 30000, 40000, 2, 60000}
-	same := curve(numbers[:3]...)
-	shared := chain(
-		curvesStage(same, same, curve(numbers[1:]...)), matrixStage(impl.Matrix{Rows: [][]int64{numbers[:3], numbers[:3], numbers[1:4]}}),
-		gridStage(impl.Grid{Side: 2, Nodes: slices.Repeat([][]int64{numbers[2:]}, 8)}))
+	shared := chainIn(numbers)
 	own := cloneChain(shared)
 	for i := range 3 {
 		v := numbers[i : i+3]
