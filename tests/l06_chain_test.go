@@ -1128,15 +1128,15 @@ func spoilChain(c impl.Chain) {
 	}
 }
 
-// isToldAgain asks of each chain what ask asks, and again from the last one on, of the same chain in other memory.
-func isToldAgain[T any](t *testing.T, list []impl.Chain, ask func(impl.Chain) T) {
+// isToldAgain asks of each one what ask asks, and again from the last one on, of the same in other memory.
+func isToldAgain[A any, T any](t *testing.T, list []A, roomy func(A) (A, func() bool), ask func(A) T) {
 	t.Helper()
 	var first []T
 	for _, c := range list {
 		first = append(first, ask(c))
 	}
 	for i, c := range slices.Backward(list) {
-		own, _ := roomyChain(c)
+		own, _ := roomy(c)
 		if second := ask(own); !reflect.DeepEqual(first[i], second) {
 			t.Fatalf("%v: %+v, then %+v", c, first[i], second)
 		}
@@ -1171,5 +1171,5 @@ func TestChainsAnswerTheSameAgain(t *testing.T) {
 		}
 		return a
 	}
-	isToldAgain(t, list, ask)
+	isToldAgain(t, list, roomyChain, ask)
 }

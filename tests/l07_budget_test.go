@@ -787,5 +787,5 @@ func TestBudgetsAnswerTheSameAgain(t *testing.T) {
 		}
 		return a
 	}
-	isToldAgain(t, chainsAndFaulty(), ask)
+	isToldAgain(t, chainsAndFaulty(), roomyChain, ask)
 }

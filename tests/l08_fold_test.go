@@ -691,5 +691,5 @@ func TestFoldsAnswerTheSameAgain(t *testing.T) {
 		}
 		return a
 	}
-	isToldAgain(t, list, ask)
+	isToldAgain(t, list, roomyChain, ask)
 }

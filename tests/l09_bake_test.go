@@ -597,5 +597,5 @@ func TestBakesAnswerTheSameAgain(t *testing.T) {
 		}
 		return a
 	}
-	isToldAgain(t, bakesAndFaulty(), ask)
+	isToldAgain(t, bakesAndFaulty(), roomyChain, ask)
 }
